@@ -1,0 +1,35 @@
+// Package plan: what a query becomes when it is compiled: its text, and the functions that find its nodes.
+package plan
+
+import (
+	"strings"
+
+	"trail/api"
+	"trail/value"
+)
+
+// Plan is a query that is right. It is never changed, so many may follow one plan.
+type Plan struct {
+	Text     string
+	Segments []Segment
+}
+
+// Segment adds what a segment takes of a value to what was found ahead of that.
+type Segment func(v *value.Value, found []*value.Value) []*value.Value
+
+// Make answers as P2 asks for; beside an error there is no plan.
+func Make(query string) (*Plan, api.Errno, int) {
+	if len(query) > api.MaxQuery {
+		return nil, api.ErrLong, 0
+	}
+	if errno, at := fault(query); errno != api.OK {
+		return nil, errno, at
+	}
+	// The names that the functions hold are parts of the query, and the caller's string is not to be kept.
+	m := maker{query: strings.Clone(query)}
+	p := m.plan()
+	if m.selectors > api.MaxSelectors {
+		return nil, api.ErrLong, 0
+	}
+	return p, api.OK, 0
+}
