@@ -20,14 +20,14 @@ type maker struct {
 func (m *maker) plan() *Plan {
 	m.takes("$")
 	m.text.WriteString("$")
-	var segments []Segment
+	var segments []segment
 	for m.at < len(m.query) {
 		segments = append(segments, m.segment())
 	}
-	return &Plan{Text: m.text.String(), Segments: segments}
+	return &Plan{Text: m.text.String(), segments: segments}
 }
 
-func (m *maker) segment() Segment {
+func (m *maker) segment() segment {
 	throughout := m.takes("..")
 	if throughout {
 		m.text.WriteString("..")
@@ -39,7 +39,7 @@ func (m *maker) segment() Segment {
 	return m.segmentOf(throughout, []selector{m.wordOrStar()})
 }
 
-func (m *maker) segmentOf(throughout bool, selectors []selector) Segment {
+func (m *maker) segmentOf(throughout bool, selectors []selector) segment {
 	m.selectors += len(selectors)
 	direct := takeDirect(selectors)
 	if throughout {

@@ -11,11 +11,11 @@ import (
 // Plan is a query that is right. It is never changed, so many may follow one plan.
 type Plan struct {
 	Text     string
-	Segments []Segment
+	segments []segment
 }
 
-// Segment adds what a segment takes of a value to what was found ahead of that.
-type Segment func(v *value.Value, found []*value.Value) []*value.Value
+// segment adds what it takes of a value to what was found ahead of that.
+type segment func(v *value.Value, found []*value.Value) []*value.Value
 
 // Make answers as P2 asks for; beside an error there is no plan.
 func Make(query string) (*Plan, api.Errno, int) {
@@ -32,4 +32,17 @@ func Make(query string) (*Plan, api.Errno, int) {
 		return nil, api.ErrLong, 0
 	}
 	return p, api.OK, 0
+}
+
+// Nodes finds the query's nodes, of the text's value, in their order.
+func (p *Plan) Nodes(root *value.Value) []*value.Value {
+	nodes := []*value.Value{root}
+	for _, take := range p.segments {
+		var found []*value.Value
+		for _, node := range nodes {
+			found = take(node, found)
+		}
+		nodes = found
+	}
+	return nodes
 }

@@ -1,74 +1,24 @@
 package plan
 
 import (
-	"encoding/json"
 	"slices"
 	"strconv"
 	"strings"
 	"testing"
 
 	"trail/api"
+	"trail/tree"
 	"trail/value"
 )
 
-// valueOf reads a text that the test trusts; the paths of all its values are laid into paths.
-func valueOf(d *json.Decoder, path string, paths map[*value.Value]string) *value.Value {
-	token, err := d.Token()
-	if err != nil {
-		panic(err)
-	}
-	v := &value.Value{}
-	paths[v] = path
-	switch x := token.(type) {
-	case json.Number:
-		v.Kind = value.Number
-		v.Number, _ = strconv.Atoi(x.String())
-	case string:
-		v.Kind, v.Text = value.String, x
-	case bool:
-		v.Kind = value.False
-		if x {
-			v.Kind = value.True
-		}
-	case json.Delim:
-		fill(d, v, x, path, paths)
-	}
-	return v
-}
-
-func fill(d *json.Decoder, v *value.Value, delim json.Delim, path string, paths map[*value.Value]string) {
-	v.Kind = value.List
-	if delim == '{' {
-		v.Kind = value.Thing
-	}
-	for d.More() {
-		if v.Kind == value.List {
-			v.Within = append(v.Within, valueOf(d, path+"["+strconv.Itoa(len(v.Within))+"]", paths))
-			continue
-		}
-		name, _ := d.Token()
-		within := valueOf(d, path+"['"+name.(string)+"']", paths)
-		within.Name = name.(string)
-		v.Within = append(v.Within, within)
-	}
-	d.Token()
-}
-
 func nodesOf(p *Plan, text string) string {
-	paths := map[*value.Value]string{}
-	d := json.NewDecoder(strings.NewReader(text))
-	d.UseNumber()
-	nodes := []*value.Value{valueOf(d, "$", paths)}
-	for _, segment := range p.Segments {
-		var found []*value.Value
-		for _, node := range nodes {
-			found = segment(node, found)
-		}
-		nodes = found
+	root, errno, at := tree.Read(text)
+	if errno != api.OK {
+		return "the text is wrong at " + strconv.Itoa(at)
 	}
 	var told []string
-	for _, node := range nodes {
-		told = append(told, paths[node])
+	for _, node := range p.Nodes(root) {
+		told = append(told, node.Path())
 	}
 	return strings.Join(told, " ")
 }
@@ -167,7 +117,7 @@ func TestSegmentsAddToWhatWasFound(t *testing.T) {
 	p, _, _ := Make("$..[0]")
 	first, second := &value.Value{}, &value.Value{}
 	list := &value.Value{Kind: value.List, Within: []*value.Value{second}}
-	if found := p.Segments[0](list, []*value.Value{first}); !slices.Equal(found, []*value.Value{first, second}) {
+	if found := p.segments[0](list, []*value.Value{first}); !slices.Equal(found, []*value.Value{first, second}) {
 		t.Errorf("found %v", found)
 	}
 }

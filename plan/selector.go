@@ -51,7 +51,7 @@ func (s selector) taking() taking {
 }
 
 // takeDirect makes the segment that takes of the value itself alone.
-func takeDirect(selectors []selector) Segment {
+func takeDirect(selectors []selector) segment {
 	var takings []taking
 	for _, s := range selectors {
 		takings = append(takings, s.taking())
@@ -69,8 +69,8 @@ func takeDirect(selectors []selector) Segment {
 }
 
 // takeThroughout makes the segment that takes of the value, and then of all that is within it.
-func takeThroughout(direct Segment) Segment {
-	var take Segment
+func takeThroughout(direct segment) segment {
+	var take segment
 	take = func(v *value.Value, found []*value.Value) []*value.Value {
 		found = direct(v, found)
 		for _, within := range v.Within {

@@ -4,6 +4,7 @@ package trail
 import (
 	"trail/api"
 	"trail/plan"
+	"trail/tree"
 )
 
 // Query is a query.
@@ -24,7 +25,17 @@ func Compile(query string) (*Query, api.Errno, int) {
 func (q *Query) Text() string { return q.plan.Text }
 
 // Select tells its nodes in a text (P4).
-func (q *Query) Select(text string) ([]api.Node, api.Errno, int) { return nil, api.OK, 0 }
+func (q *Query) Select(text string) ([]api.Node, api.Errno, int) {
+	root, errno, at := tree.Read(text)
+	if errno != api.OK {
+		return nil, errno, at
+	}
+	var nodes []api.Node
+	for _, v := range q.plan.Nodes(root) {
+		nodes = append(nodes, api.Node{Path: v.Path(), From: v.From, To: v.To})
+	}
+	return nodes, api.OK, 0
+}
 
 // Stream follows a text that comes in pieces.
 type Stream struct{}

@@ -1,6 +1,13 @@
 // Package value: what a text is made of once it has been read: values within values.
 package value
 
+import (
+	"strconv"
+	"strings"
+
+	"trail/api"
+)
+
 // Kind says what a value is.
 type Kind int
 
@@ -14,13 +21,35 @@ const (
 	Thing
 )
 
-// Value is one value. Number and Text have a meaning for the kinds of that name alone.
+// MaxText is how many bytes of a string are held. A constant has fewer, so these tell whether the
+// string is one, or is less than it.
+const MaxText = api.MaxWord + 1
+
+// Value is one value. Number and Text have a meaning for numbers and strings alone.
 type Value struct {
-	Kind   Kind
-	Number int
-	Text   string
-	Name   string   // by which a thing holds it
-	Within []*Value // as they stand in the text
+	Kind     Kind
+	From, To int // its span
+	Number   int
+	Text     string   // the first MaxText bytes
+	Holder   *Value   // the list or thing that it is directly within; of the text's value nil
+	Index    int      // how many values the holder has ahead of it
+	Name     string   // by which a thing holds it
+	Within   []*Value // as they stand in the text
+}
+
+// Path tells how one comes to it from the text's value.
+func (v *Value) Path() string {
+	if v.Holder == nil {
+		return "$"
+	}
+	if v.Holder.Kind == List {
+		return v.Holder.Path() + "[" + strconv.Itoa(v.Index) + "]"
+	}
+	return v.Holder.Path() + "['" + escaped(v.Name) + "']"
+}
+
+func escaped(name string) string {
+	return strings.ReplaceAll(strings.ReplaceAll(name, `\`, `\\`), `'`, `\'`)
 }
 
 // Member leads to the first member of this name, or nowhere (nil).

@@ -1,0 +1,22 @@
+package scan
+
+import "trail/value"
+
+// TokenKind says what a token tells.
+type TokenKind int
+
+const (
+	Open  TokenKind = iota // a list or a thing begins
+	Shut                   // the innermost list or thing that is open ends
+	Name                   // of the member whose value comes next
+	Plain                  // a value within which there is none, whole
+)
+
+// Token is what a reader tells of. Beside Kind, it has what that kind needs.
+type Token struct {
+	Kind     TokenKind
+	Of       value.Kind // what the value is that begins
+	From, To int        // the ends of the value's span that are known
+	Number   int
+	Text     string // a name, or a string as far as value.Value holds it
+}
