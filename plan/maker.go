@@ -24,7 +24,16 @@ func (m *maker) plan() *Plan {
 	for m.at < len(m.query) {
 		segments = append(segments, m.segment())
 	}
-	return &Plan{Text: m.text.String(), segments: segments}
+	return &Plan{Text: m.text.String(), segments: segments, head: headOf(segments)}
+}
+
+func headOf(segments []segment) int {
+	for i, s := range segments {
+		if s.late {
+			return i
+		}
+	}
+	return len(segments)
 }
 
 func (m *maker) segment() segment {
@@ -32,20 +41,17 @@ func (m *maker) segment() segment {
 	if throughout {
 		m.text.WriteString("..")
 	}
-	if strings.HasPrefix(m.query[m.at:], "[") {
-		return m.segmentOf(throughout, m.bracketed())
-	}
-	m.takes(".")
-	return m.segmentOf(throughout, []selector{m.wordOrStar()})
+	selectors := m.segmentSelectors()
+	m.selectors += len(selectors)
+	return segmentOf(throughout, selectors)
 }
 
-func (m *maker) segmentOf(throughout bool, selectors []selector) segment {
-	m.selectors += len(selectors)
-	direct := takeDirect(selectors)
-	if throughout {
-		return takeThroughout(direct)
+func (m *maker) segmentSelectors() []selector {
+	if strings.HasPrefix(m.query[m.at:], "[") {
+		return m.bracketed()
 	}
-	return direct
+	m.takes(".")
+	return []selector{m.wordOrStar()}
 }
 
 func (m *maker) wordOrStar() selector {

@@ -12,10 +12,8 @@ import (
 type Plan struct {
 	Text     string
 	segments []segment
+	head     int // how many segments stand ahead of the first late one
 }
-
-// segment adds what it takes of a value to what was found ahead of that.
-type segment func(v *value.Value, found []*value.Value) []*value.Value
 
 // Make answers as P2 asks for; beside an error there is no plan.
 func Make(query string) (*Plan, api.Errno, int) {
@@ -37,10 +35,10 @@ func Make(query string) (*Plan, api.Errno, int) {
 // Nodes finds the query's nodes, of the text's value, in their order.
 func (p *Plan) Nodes(root *value.Value) []*value.Value {
 	nodes := []*value.Value{root}
-	for _, take := range p.segments {
+	for _, s := range p.segments {
 		var found []*value.Value
 		for _, node := range nodes {
-			found = take(node, found)
+			found = s.take(node, found)
 		}
 		nodes = found
 	}

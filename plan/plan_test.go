@@ -115,9 +115,10 @@ func TestConditions(t *testing.T) {
 
 func TestSegmentsAddToWhatWasFound(t *testing.T) {
 	p, _, _ := Make("$..[0]")
-	first, second := &value.Value{}, &value.Value{}
-	list := &value.Value{Kind: value.List, Within: []*value.Value{second}}
-	if found := p.segments[0](list, []*value.Value{first}); !slices.Equal(found, []*value.Value{first, second}) {
+	list := &value.Value{Kind: value.List}
+	first, second := &value.Value{}, &value.Value{Parent: list}
+	list.Within = []*value.Value{second}
+	if found := p.segments[0].take(list, []*value.Value{first}); !slices.Equal(found, []*value.Value{first, second}) {
 		t.Errorf("found %v", found)
 	}
 }

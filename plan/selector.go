@@ -22,61 +22,29 @@ type selector struct {
 	met      condition
 }
 
-// taking tells whether a selector takes, of a value, the one within it that has this number. A
-// selector takes values as they stand and none of them twice, so this is all that is to be known of it.
-type taking func(v *value.Value, number int) bool
+// late: what it takes hangs on the end of the value that it takes from.
+func (s selector) late() bool { return s.kind == fromEnd || s.kind == filtered }
+
+// taking tells whether a selector takes a value of the one that it is directly within. A selector
+// takes values as they stand and none of them twice, so this is all that is to be known of it.
+type taking func(v *value.Value) bool
 
 func (s selector) taking() taking {
 	switch s.kind {
 	case named:
-		return func(v *value.Value, number int) bool {
-			return v.Kind == value.Thing && v.Within[number].Name == s.name
-		}
+		return func(v *value.Value) bool { return v.Parent.Kind == value.Thing && v.Name == s.name }
 	case counted:
-		return func(v *value.Value, number int) bool {
-			return v.Kind == value.List && number == s.from
-		}
+		return func(v *value.Value) bool { return v.Parent.Kind == value.List && v.Index == s.from }
 	case fromEnd:
-		return func(v *value.Value, number int) bool {
-			return v.Kind == value.List && number == len(v.Within)-s.from
+		return func(v *value.Value) bool {
+			return v.Parent.Kind == value.List && v.Index == len(v.Parent.Within)-s.from
 		}
 	case piece:
-		return func(v *value.Value, number int) bool {
-			return v.Kind == value.List && number >= s.from && number < s.to
+		return func(v *value.Value) bool {
+			return v.Parent.Kind == value.List && v.Index >= s.from && v.Index < s.to
 		}
 	case filtered:
-		return func(v *value.Value, number int) bool { return s.met(v.Within[number]) }
+		return taking(s.met)
 	}
-	return func(v *value.Value, number int) bool { return true }
-}
-
-// takeDirect makes the segment that takes of the value itself alone.
-func takeDirect(selectors []selector) segment {
-	var takings []taking
-	for _, s := range selectors {
-		takings = append(takings, s.taking())
-	}
-	return func(v *value.Value, found []*value.Value) []*value.Value {
-		for _, takes := range takings {
-			for number, within := range v.Within {
-				if takes(v, number) {
-					found = append(found, within)
-				}
-			}
-		}
-		return found
-	}
-}
-
-// takeThroughout makes the segment that takes of the value, and then of all that is within it.
-func takeThroughout(direct segment) segment {
-	var take segment
-	take = func(v *value.Value, found []*value.Value) []*value.Value {
-		found = direct(v, found)
-		for _, within := range v.Within {
-			found = take(within, found)
-		}
-		return found
-	}
-	return take
+	return func(v *value.Value) bool { return true }
 }

@@ -111,9 +111,9 @@ func (r *Reader) between(b byte) state {
 func (r *Reader) begin(b byte) state {
 	switch b {
 	case '[':
-		return r.beginHolder(value.List, wantFirst)
+		return r.beginListOrThing(value.List, wantFirst)
 	case '{':
-		return r.beginHolder(value.Thing, wantMember)
+		return r.beginListOrThing(value.Thing, wantMember)
 	case '"':
 		return r.beginString(Plain)
 	case 't':
@@ -126,7 +126,7 @@ func (r *Reader) begin(b byte) state {
 	return r.beginNumber(b)
 }
 
-func (r *Reader) beginHolder(of value.Kind, behind state) state {
+func (r *Reader) beginListOrThing(of value.Kind, behind state) state {
 	if len(r.open) == api.MaxDeep {
 		return deep
 	}

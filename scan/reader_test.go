@@ -251,3 +251,43 @@ func TestHowATextIsCutMeansNothing(t *testing.T) {
 		}
 	}
 }
+
+// TestRoom: however a text is cut, no piece has more tokens than there is room for.
+func TestRoom(t *testing.T) {
+	texts := []string{`{"a\\":[1,-23,"x\"y",true,null,false],"b":{"":0}} `, "[[[[1]]]]", "[1,2]", "12", "[[],{},[0 ]]", "[0\n,1", "[1x", "{\"eel\":[\"eel\",1]}"}
+	for digit := range 10 {
+		texts = append(texts, fmt.Sprintf("[%d,%d,%d]", digit, digit, digit))
+	}
+	for _, text := range texts {
+		for first := range len(text) + 1 {
+			for second := first; second <= len(text); second++ {
+				expectRoom(t, text[:first], text[first:second], text[second:])
+			}
+		}
+	}
+	if room := Room(strings.Repeat("x ,:\n-", 1000)); room != 1 {
+		t.Errorf("room for %d tokens where none ends", room)
+	}
+}
+
+func expectRoom(t *testing.T, pieces ...string) {
+	t.Helper()
+	var r Reader
+	count := 0
+	tell := func(Token) { count++ }
+	for _, piece := range pieces {
+		count = 0
+		errno, _ := r.Read(piece, tell)
+		if count > Room(piece) {
+			t.Errorf("%q of %q: %d tokens, room for %d", piece, pieces, count, Room(piece))
+		}
+		if errno != api.OK {
+			return
+		}
+	}
+	count = 0
+	r.End(tell)
+	if count > Room("") {
+		t.Errorf("the end of %q: %d tokens, room for %d", pieces, count, Room(""))
+	}
+}

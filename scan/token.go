@@ -1,6 +1,10 @@
 package scan
 
-import "trail/value"
+import (
+	"strings"
+
+	"trail/value"
+)
 
 // TokenKind says what a token tells.
 type TokenKind int
@@ -19,4 +23,19 @@ type Token struct {
 	From, To int        // the ends of the value's span that are known
 	Number   int
 	Text     string // a name, or a string as far as value.Value holds it
+}
+
+// lastBytes are those that a token may end with.
+const lastBytes = `[]{}"0123456789el`
+
+// Room tells how many tokens a reader can tell of while it reads a piece: those that end in it, and
+// the number that ended ahead of it and is whole only now.
+func Room(piece string) int {
+	room := 1
+	for i := range len(piece) {
+		if strings.IndexByte(lastBytes, piece[i]) >= 0 {
+			room++
+		}
+	}
+	return room
 }

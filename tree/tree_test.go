@@ -7,6 +7,7 @@ import (
 	"testing"
 
 	"trail/api"
+	"trail/scan"
 	"trail/value"
 )
 
@@ -39,7 +40,7 @@ func inner(t *testing.T, text string, v *value.Value) {
 		}
 	}
 	for index, within := range v.Within {
-		expect(t, within, within.Holder == v && within.Index == index)
+		expect(t, within, within.Parent == v && within.Index == index)
 		inner(t, text, within)
 	}
 }
@@ -60,7 +61,7 @@ func TestRead(t *testing.T) {
 			t.Errorf("Read(%q) = %v, %d, %d", text, root, errno, at)
 			continue
 		}
-		expect(t, root, root.Holder == nil && text[root.From:root.To] == strings.Trim(text, " \n"))
+		expect(t, root, root.Parent == nil && text[root.From:root.To] == strings.Trim(text, " \n"))
 		inner(t, text, root)
 	}
 }
@@ -86,5 +87,30 @@ func TestReadOfWrongTexts(t *testing.T) {
 		if root, errno, at := Read(c.text); root != nil || errno != c.errno || at != c.at {
 			t.Errorf("Read(%q) = %v, %d, %d, want nil, %d, %d", c.text, root, errno, at, c.errno, c.at)
 		}
+	}
+}
+
+// TestGrower: what it tells, in order; only lists keep what is within them.
+func TestGrower(t *testing.T) {
+	var told []string
+	var root *value.Value
+	g := Grower{
+		Begins: func(v *value.Value) bool {
+			told = append(told, "begins "+v.Path())
+			return v.Parent != nil && v.Parent.Kind == value.List
+		},
+		Closed: func(v *value.Value) {
+			told = append(told, "closed "+v.Path()+" "+strconv.Itoa(v.To))
+			root = v
+		},
+	}
+	var r scan.Reader
+	r.Read(`[7,{"a":1,"b":[2,3]},4]`, g.Take)
+	want := "begins $, begins $[0], closed $[0] 2, begins $[1], begins $[1]['a'], closed $[1]['a'] 9, begins $[1]['b'], begins $[1]['b'][0], closed $[1]['b'][0] 16, begins $[1]['b'][1], closed $[1]['b'][1] 18, closed $[1]['b'] 19, closed $[1] 20, begins $[2], closed $[2] 22, closed $ 23"
+	if got := strings.Join(told, ", "); got != want {
+		t.Errorf("told %s, want %s", got, want)
+	}
+	if len(root.Within) != 3 || len(root.Within[1].Within) != 0 || root.Within[2].Index != 2 {
+		t.Errorf("kept %+v", root.Within)
 	}
 }

@@ -31,21 +31,26 @@ type Value struct {
 	From, To int // its span
 	Number   int
 	Text     string   // the first MaxText bytes
-	Holder   *Value   // the list or thing that it is directly within; of the text's value nil
-	Index    int      // how many values the holder has ahead of it
+	Parent   *Value   // the list or thing that it is directly within; of the text's value nil
+	Index    int      // how many values the parent has ahead of it
 	Name     string   // by which a thing holds it
-	Within   []*Value // as they stand in the text
+	Within   []*Value // those that it keeps, as they stand in the text
+}
+
+// Node tells where it stands, and how one comes to it.
+func (v *Value) Node() api.Node {
+	return api.Node{Path: v.Path(), From: v.From, To: v.To}
 }
 
 // Path tells how one comes to it from the text's value.
 func (v *Value) Path() string {
-	if v.Holder == nil {
+	if v.Parent == nil {
 		return "$"
 	}
-	if v.Holder.Kind == List {
-		return v.Holder.Path() + "[" + strconv.Itoa(v.Index) + "]"
+	if v.Parent.Kind == List {
+		return v.Parent.Path() + "[" + strconv.Itoa(v.Index) + "]"
 	}
-	return v.Holder.Path() + "['" + escaped(v.Name) + "']"
+	return v.Parent.Path() + "['" + escaped(v.Name) + "']"
 }
 
 func escaped(name string) string {

@@ -1,21 +1,25 @@
 package value
 
-import "testing"
+import (
+	"testing"
+
+	"trail/api"
+)
 
 func TestPath(t *testing.T) {
 	root := &Value{Kind: List}
-	thing := &Value{Kind: Thing, Holder: root, Index: 12}
+	thing := &Value{Kind: Thing, Parent: root, Index: 12}
 	for _, c := range []struct {
 		v    *Value
 		want string
 	}{
 		{root, "$"},
 		{thing, "$[12]"},
-		{&Value{Holder: thing, Name: "a b"}, "$[12]['a b']"},
-		{&Value{Holder: thing, Index: 3}, "$[12]['']"},
-		{&Value{Holder: thing, Name: `'`}, `$[12]['\'']`},
-		{&Value{Holder: thing, Name: `\`}, `$[12]['\\']`},
-		{&Value{Holder: thing, Name: `\'"'\`}, `$[12]['\\\'"\'\\']`},
+		{&Value{Parent: thing, Name: "a b"}, "$[12]['a b']"},
+		{&Value{Parent: thing, Index: 3}, "$[12]['']"},
+		{&Value{Parent: thing, Name: `'`}, `$[12]['\'']`},
+		{&Value{Parent: thing, Name: `\`}, `$[12]['\\']`},
+		{&Value{Parent: thing, Name: `\'"'\`}, `$[12]['\\\'"\'\\']`},
 	} {
 		if path := c.v.Path(); path != c.want {
 			t.Errorf("path %s, want %s", path, c.want)
@@ -34,5 +38,12 @@ func TestHeldTextIsEnough(t *testing.T) {
 				t.Errorf("%q and %q: equal %v, less %v", whole, constant, held.Equal(other), held.Less(other))
 			}
 		}
+	}
+}
+
+func TestNode(t *testing.T) {
+	v := &Value{Parent: &Value{Kind: List}, Index: 2, From: 5, To: 7}
+	if n := v.Node(); n != (api.Node{Path: "$[2]", From: 5, To: 7}) {
+		t.Errorf("node %v", n)
 	}
 }
